@@ -1,0 +1,1 @@
+"""Seedbed: a language of tasks within scopes, with its compiler and its world."""

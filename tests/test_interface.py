@@ -1,0 +1,46 @@
+"""The opening of the part "The interface": names and arguments, in the file that lists them."""
+
+import importlib
+import inspect
+import unittest
+
+FUNCTIONS = {
+    "seedbed.program": {
+        "fitted": "(number)",
+        "value_of": "(expression, values)",
+        "function_named": "(program, name)",
+    },
+    "seedbed.notation": {
+        "format_program": "(program)",
+    },
+}
+CLASSES = {
+    "seedbed.errors": [
+        "SeedError", "BadText", "BadProgram", "BadCode", "BadOctets", "OutOfRange", "IsDone", "BadCommand",
+    ],
+}
+
+
+class Interface(unittest.TestCase):
+    def test_functions_with_their_arguments_in_their_files(self):
+        for module, functions in FUNCTIONS.items():
+            for name, arguments in functions.items():
+                with self.subTest(module=module, name=name):
+                    function = getattr(importlib.import_module(module), name)
+                    self.assertTrue(inspect.isfunction(function))
+                    self.assertEqual(function.__module__, module)
+                    self.assertEqual(function.__name__, name)
+                    self.assertEqual(str(inspect.signature(function)), arguments)
+
+    def test_classes_in_their_files(self):
+        for module, names in CLASSES.items():
+            for name in names:
+                with self.subTest(module=module, name=name):
+                    kind = getattr(importlib.import_module(module), name)
+                    self.assertTrue(inspect.isclass(kind))
+                    self.assertEqual(kind.__module__, module)
+                    self.assertEqual(kind.__name__, name)
+
+
+if __name__ == "__main__":
+    unittest.main()
