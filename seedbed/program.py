@@ -1,9 +1,38 @@
-"""Programs, and the values of their expressions (points 3 to 7 and 17)."""
+"""Names, numbers and programs, and the values of expressions (points 3 to 7 and 17)."""
 
 from seedbed.errors import OutOfRange
 
 GREATEST = 1000000000
 NUMBERS = 2000000001
+
+LONGEST_NAME = 12
+LETTERS = "abcdefghijklmnopqrstuvwxyz"
+LETTERS_AND_DIGITS = "abcdefghijklmnopqrstuvwxyz0123456789"
+RESERVED = (
+    "int", "bool", "channel", "task", "none", "true", "false", "not", "and", "or", "func", "let", "set", "emit",
+    "if", "else", "while", "return", "throw", "try", "catch", "finally", "scope", "watch", "shield", "using",
+    "spawn", "await", "cancel", "open", "send", "receive", "close", "sleep", "yield", "now", "call", "select",
+    "after", "default", "end",
+)
+
+
+def is_name(value):
+    """Tell whether a value of any kind is a name."""
+    if not isinstance(value, str) or not 1 <= len(value) <= LONGEST_NAME:
+        return False
+    if value[0] not in LETTERS or value in RESERVED:
+        return False
+    return all(mark in LETTERS_AND_DIGITS for mark in value)
+
+
+def is_integer(value):
+    """Tell whether a value of any kind is an integer; True and False are none."""
+    return isinstance(value, int) and not isinstance(value, bool)
+
+
+def is_number(value):
+    """Tell whether a value of any kind is a number of the language."""
+    return is_integer(value) and -GREATEST <= value <= GREATEST
 
 
 def fitted(number):

@@ -10,14 +10,35 @@ FUNCTIONS = {
         "value_of": "(expression, values)",
         "function_named": "(program, name)",
     },
+    "seedbed.checks": {
+        "check_program": "(program)",
+        "kinds_in": "(program, name)",
+        "parse_program": "(text)",
+    },
     "seedbed.notation": {
         "format_program": "(program)",
+    },
+    "seedbed.direct": {
+        "turns_of": "(coroutine, replies)",
+    },
+    "seedbed.code": {
+        "check_code": "(code)",
+    },
+    "seedbed.compiler": {
+        "compile_program": "(program)",
     },
 }
 CLASSES = {
     "seedbed.errors": [
         "SeedError", "BadText", "BadProgram", "BadCode", "BadOctets", "OutOfRange", "IsDone", "BadCommand",
     ],
+    "seedbed.direct": ["Direct"],
+}
+METHODS = {
+    ("seedbed.direct", "Direct"): {
+        "__init__": "(self, program, name, args)",
+        "resume": "(self, reply=None)",
+    },
 }
 
 
@@ -40,6 +61,13 @@ class Interface(unittest.TestCase):
                     self.assertTrue(inspect.isclass(kind))
                     self.assertEqual(kind.__module__, module)
                     self.assertEqual(kind.__name__, name)
+
+    def test_methods_with_their_arguments_in_their_classes(self):
+        for (module, name), methods in METHODS.items():
+            for method, arguments in methods.items():
+                with self.subTest(module=module, name=name, method=method):
+                    function = vars(getattr(importlib.import_module(module), name))[method]
+                    self.assertEqual(str(inspect.signature(function)), arguments)
 
 
 if __name__ == "__main__":
