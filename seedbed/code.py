@@ -3,7 +3,7 @@
 from seedbed.errors import BadCode
 from seedbed.form import SIGNS, has_word
 from seedbed.program import is_integer, is_name, is_number
-from seedbed.reach import check_reached, need
+from seedbed.reach import reached_in, need
 
 MOST_FUNCTIONS = 8
 MOST_PARAMS = 4
@@ -72,7 +72,7 @@ def check_function(function, counts, earlier):
         check_named(instruction, counts, earlier)
     for guard in guards:
         check_guard(guard, instructions)
-    check_reached(instructions, guards)
+    reached_in(instructions, guards)
 
 
 def is_within(value, least, greatest):

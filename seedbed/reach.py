@@ -12,11 +12,18 @@ MOST_PENDING = 20
 POPS = {"store": 1, "branch": 1}
 PUSHES = {"push": 1, "load": 1, "apply": 1, "select": 1}
 
+# Replies to these asks always count as values, so no completion occurs at them.
+UNFAILING = ("shield", "unveil", "release")
 
-def check_reached(instructions, guards):
-    """Check that the instructions and guards of a function, which have the right form, can be executed."""
+
+def reached_in(instructions, guards):
+    """Check that the instructions and guards of a function, which have the right form, can be executed.
+
+    Return a dict from the indexes of the instructions that are reached to their states.
+    """
     walk = Walk(instructions, guards)
     walk.check()
+    return walk.states
 
 
 def need(holds, why):
@@ -59,7 +66,7 @@ class Walk:
     def __init__(self, instructions, guards):
         self._instructions = instructions
         self._guards = guards
-        self._states = {}
+        self.states = {}
         self._open_ends = []
 
     def check(self):
@@ -78,15 +85,15 @@ class Walk:
             self._reach(at, state)
 
     def _reach(self, at, state):
-        if at not in self._states:
-            self._states[at] = state
+        if at not in self.states:
+            self.states[at] = state
             self._open_ends.append(at)
-        need(self._states[at] == state, "no instruction is reached with two different pairs of numbers")
+        need(self.states[at] == state, "no instruction is reached with two different pairs of numbers")
 
     def _go_on_from(self, at):
         instruction = self._instructions[at]
         word = instruction[0]
-        height, pending = self._states[at]
+        height, pending = self.states[at]
         height -= pops_of(instruction)
         pending -= 1 if word in ("resume", "leave", "catch") else 0
         need(height >= 0, "an instruction pops no more values than there are")

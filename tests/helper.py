@@ -514,6 +514,7 @@ class CodeRun:
         self.frames = []
         self.push_frame(name, args)
         self.asked = None
+        self.most = None
 
     def push_frame(self, name, args):
         _, _, slots, instructions, guards = self.functions[name]
@@ -533,7 +534,15 @@ class CodeRun:
             ask = self.step(frame, frame["instructions"][frame["at"]])
             if ask is not None:
                 return ("ask", ask)
+            self.count_step()
         return ("done", self.outcome)
+
+    def count_step(self):
+        """Raise OverflowError if there is a bound for the number of instructions, and it is reached."""
+        if self.most is not None:
+            self.most -= 1
+            if self.most < 0:
+                raise OverflowError("too many instructions without an ask")
 
     def store(self, slot, value):
         if slot is not None:

@@ -27,16 +27,28 @@ FUNCTIONS = {
     "seedbed.compiler": {
         "compile_program": "(program)",
     },
+    "seedbed.tidy": {
+        "tidy_code": "(code)",
+    },
+    "seedbed.packing": {
+        "pack_code": "(code)",
+        "unpack_code": "(octets)",
+    },
 }
 CLASSES = {
     "seedbed.errors": [
         "SeedError", "BadText", "BadProgram", "BadCode", "BadOctets", "OutOfRange", "IsDone", "BadCommand",
     ],
     "seedbed.direct": ["Direct"],
+    "seedbed.machine": ["Machine"],
 }
 METHODS = {
     ("seedbed.direct", "Direct"): {
         "__init__": "(self, program, name, args)",
+        "resume": "(self, reply=None)",
+    },
+    ("seedbed.machine", "Machine"): {
+        "__init__": "(self, code, name, args)",
         "resume": "(self, reply=None)",
     },
 }
