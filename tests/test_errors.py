@@ -1,11 +1,22 @@
-"""Point 2 and the section seedbed/errors.py: the exceptions."""
+"""Point 2 and the section seedbed/errors.py: the exceptions, and a refusal that raises each."""
 
 import unittest
 
+from helper import main_with
 from seedbed import errors
+from seedbed.checks import check_program, kinds_in, parse_program
+from seedbed.code import check_code
+from seedbed.compiler import compile_program
+from seedbed.desk import Desk
+from seedbed.direct import Direct
 from seedbed.errors import (
     BadCode, BadCommand, BadOctets, BadProgram, BadText, IsDone, OutOfRange, SeedError,
 )
+from seedbed.machine import Machine
+from seedbed.packing import pack_code, unpack_code
+from seedbed.program import function_named
+from seedbed.tidy import tidy_code
+from seedbed.world import World
 
 SUBCLASSES = [BadText, BadProgram, BadCode, BadOctets, OutOfRange, IsDone, BadCommand]
 TEXTS = ["no such thing", "", " ", "two\nlines", "it's \"quoted\"", "100 {x} \\n", "0"]
@@ -64,6 +75,59 @@ class Texts(unittest.TestCase):
                             raise kind("why")
                         except other:
                             pass
+
+
+EMPTY = main_with([])
+CODE = [("main", 0, 0, [], [])]
+WRONG = main_with([("emit", True)])
+
+
+def resumed(coroutine):
+    coroutine.resume()
+    return coroutine
+
+
+REFUSALS = [
+    (BadProgram, lambda: check_program(WRONG)),
+    (BadProgram, lambda: compile_program(WRONG)),
+    (BadProgram, lambda: World(WRONG, kind="other")),
+    (BadProgram, lambda: Desk(WRONG)),
+    ((BadProgram, BadText), lambda: parse_program("func main none\n  emit true\nend\n")),
+    (BadText, lambda: parse_program("func\n")),
+    (BadCode, lambda: check_code([])),
+    (BadCode, lambda: tidy_code([])),
+    (BadCode, lambda: pack_code([])),
+    (BadOctets, lambda: unpack_code([])),
+    (BadOctets, lambda: unpack_code([*pack_code(CODE), 0])),
+    (OutOfRange, lambda: function_named(EMPTY, "f")),
+    (OutOfRange, lambda: kinds_in(EMPTY, "f")),
+    (OutOfRange, lambda: Direct(EMPTY, "f", [])),
+    (OutOfRange, lambda: Direct(EMPTY, "main", [1])),
+    (OutOfRange, lambda: Direct(EMPTY, "main", []).resume(("value", None))),
+    (OutOfRange, lambda: Machine(CODE, "f", [])),
+    (OutOfRange, lambda: Machine(CODE, "main", [1])),
+    (OutOfRange, lambda: Machine(CODE, "main", []).resume(("value", None))),
+    (OutOfRange, lambda: World(EMPTY, kind="other")),
+    (OutOfRange, lambda: World(EMPTY).run([-1])),
+    (OutOfRange, lambda: World(EMPTY).run([], most=-1)),
+    (IsDone, lambda: resumed(Direct(EMPTY, "main", [])).resume()),
+    (IsDone, lambda: resumed(Machine(CODE, "main", [])).resume(("value", None))),
+    (BadCommand, lambda: Desk(EMPTY).ask("")),
+    (BadCommand, lambda: Desk(EMPTY).ask("run 01")),
+]
+
+
+class Refusals(unittest.TestCase):
+    def test_each_raises_an_exception_of_its_own_class(self):
+        for kinds, refusal in REFUSALS:
+            kinds = kinds if isinstance(kinds, tuple) else (kinds,)
+            with self.assertRaises(SeedError) as caught:
+                refusal()
+            self.assertIn(type(caught.exception), kinds)
+            self.assertIsInstance(str(caught.exception), str)
+
+    def test_each_class_is_raised(self):
+        self.assertEqual({kind for kind, _ in REFUSALS if not isinstance(kind, tuple)}, set(SUBCLASSES))
 
 
 if __name__ == "__main__":

@@ -1,4 +1,4 @@
-"""The opening of the part "The interface": names and arguments, in the file that lists them."""
+"""The part "The interface": names and arguments, in the file that lists them."""
 
 import importlib
 import inspect
@@ -34,6 +34,12 @@ FUNCTIONS = {
         "pack_code": "(code)",
         "unpack_code": "(octets)",
     },
+    "seedbed.audit": {
+        "audit": "(events)",
+    },
+    "seedbed.waits": {
+        "first_circle": "(waits)",
+    },
 }
 CLASSES = {
     "seedbed.errors": [
@@ -41,6 +47,8 @@ CLASSES = {
     ],
     "seedbed.direct": ["Direct"],
     "seedbed.machine": ["Machine"],
+    "seedbed.world": ["World"],
+    "seedbed.desk": ["Desk"],
 }
 METHODS = {
     ("seedbed.direct", "Direct"): {
@@ -50,6 +58,17 @@ METHODS = {
     ("seedbed.machine", "Machine"): {
         "__init__": "(self, code, name, args)",
         "resume": "(self, reply=None)",
+    },
+    ("seedbed.world", "World"): {
+        "__init__": "(self, program, *, kind='direct')",
+        "run": "(self, schedule, *, most=1000)",
+        "trace": "(self)",
+        "output": "(self)",
+        "waits": "(self)",
+    },
+    ("seedbed.desk", "Desk"): {
+        "__init__": "(self, program)",
+        "ask": "(self, command)",
     },
 }
 
@@ -80,6 +99,11 @@ class Interface(unittest.TestCase):
                 with self.subTest(module=module, name=name, method=method):
                     function = vars(getattr(importlib.import_module(module), name))[method]
                     self.assertEqual(str(inspect.signature(function)), arguments)
+
+    def test_the_property_of_a_world(self):
+        world = importlib.import_module("seedbed.world").World
+        self.assertIsInstance(vars(world)["time"], property)
+        self.assertIsNone(vars(world)["time"].fset)
 
 
 if __name__ == "__main__":
