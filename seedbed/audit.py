@@ -3,7 +3,6 @@
 from seedbed.book import Book
 from seedbed.marks import CANCELLED, POINTS, is_shield
 
-FIRST = ("start", 0, "main", [], None)
 NO_START = ("throw", -6)
 
 
@@ -21,7 +20,7 @@ def audit(events):
 def rule_broken_by(book, event):
     """Return the least rule that an event breaks, or None."""
     if not book.tasks:
-        return None if event == FIRST else 1
+        return None if event == ("start", 0, "main", [], None) else 1
     match event:
         case ("start", number, name, args, scope):
             return rule_broken_by_start(book, number, ("spawn", name, args), scope)

@@ -70,15 +70,11 @@ class Book:
                 for scope in self._scopes:
                     scope.call_off_if_late(time)
         if event[0] in ("ask", "done", "time"):
-            self._call_off_from_outside()
+            # The members of a scope have greater numbers than its owner, so they are looked at after it.
+            for task in self.tasks:
+                task.call_off_from_outside()
         self.last_but_one = self.last
         self.last = event
-
-    def _call_off_from_outside(self):
-        at = 0
-        while at < len(self.tasks):
-            # A scope that is called off can concern the tasks before its owner, too.
-            at = 0 if self.tasks[at].call_off_from_outside() else at + 1
 
     def _enter_start(self, number):
         scope = self.tasks[self.last[1]].last_scope() if self.tasks else None

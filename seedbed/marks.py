@@ -111,14 +111,9 @@ class Member:
         return NOTHING
 
     def call_off_from_outside(self):
-        """Call the scope of a leave at which the task waits off, if the task would be called off without it.
-
-        Tell whether the scope was called off by this.
-        """
-        if not self.is_leaving() or self.marks[-1].cause is not None or not self.is_called_off_besides():
-            return False
-        self.marks[-1].call_off(OUTSIDE)
-        return True
+        """Call the scope of a leave at which the task waits off, if the task would be called off without it."""
+        if self.is_leaving() and self.is_called_off_besides():
+            self.marks[-1].call_off(OUTSIDE)
 
     def report_failure(self):
         """Call the scope of a task that is done off if the task failed, unless the scope is watched."""

@@ -46,7 +46,7 @@ class Reducer:
         for at in range(len(self.keep)):
             self._kept.append(at)
             self._reduce_last()
-        if self._kept and self._is_needless_end(self._kept[-1]):
+        while self._kept and self._is_needless_end(self._kept[-1]):
             self._leave_out(1)
 
     def _last(self, back):
@@ -121,7 +121,7 @@ class Reducer:
         self._leave_out(length)
 
     def _is_needless_end(self, at):
-        """Tell whether the instruction at this index does what happens behind the last one, too."""
-        if self.instructions[at] != ("complete", "end") or at != len(self.keep) - 1:
+        """Tell whether the last instruction that is kept does what happens behind it, too."""
+        if self.instructions[at] != ("complete", "end") or at in self._targets:
             return False
         return not any(first <= at < last and word == "clean" for first, last, _, word, _ in self._guards)

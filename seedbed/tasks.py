@@ -139,16 +139,12 @@ def end_task(state, task, outcome):
 
 
 def call_off_waiting(state):
-    """Withdraw the asks of tasks that are called off, and call off scopes whose owners are, as long as there are any.
+    """Withdraw the asks of tasks that are called off, and call off the scopes whose leaves such tasks wait at.
 
-    After each change the tasks are looked at again from the first one on.
+    A scope that is called off concerns its members, and these have greater numbers than its owner.
+    So the tasks before it need not be looked at again.
     """
-    at = 0
-    while at < len(state.tasks):
-        task = state.tasks[at]
-        at += 1
+    for task in state.tasks:
         if task.asked is not None and task.asked[0] in POINTS and task.is_called_off():
             state.reply_to(task, CANCELLED)
-            at = 0
-        elif task.call_off_from_outside():
-            at = 0
+        task.call_off_from_outside()

@@ -321,6 +321,14 @@ class Rule7(Audits):
             self.broken([*events, *made(0, "receive", 0, what=5)], 7)
         self.kept([*self.OPENED, ask(0, "select", arms, False), throw(0, -2), *made(0, "send", 0, 1)])
 
+    def test_an_index_below_0_is_that_of_no_arm(self):
+        arms = [("after", 3), ("receive", 0)]
+        for what in ((-1, 9), (-2, 9), (-1, None)):
+            self.kept([*self.OPENED, *made(0, "select", arms, False, what=what), *made(0, "yield")])
+        events = [*self.OPENED, *made(0, "select", [("send", 0, 6)], False, what=(-1, None))]
+        self.broken([*events, *made(0, "receive", 0, what=6)], 7)
+        self.broken([*self.OPENED, *made(0, "send", 0, 5), *made(0, "receive", -1, what=5)], 7)
+
     def test_more_than_the_size(self):
         full = [*self.OPENED, *made(0, "send", 0, 5), *made(0, "send", 0, 6), ask(0, "send", 0, 7)]
         self.kept([*full, throw(0, -2), *made(0, "yield")])

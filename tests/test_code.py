@@ -4,27 +4,14 @@ import copy
 import random
 import unittest
 
+from codes import COUNTS, END, LEAVE, MOST, RESUME, SETTLE, YIELD, function
 from helper import ODD_VALUES, RESERVED, ProgramMaker, part_at, paths, replaced, sample_program, unchanged_by
 from seedbed.code import check_code
 from seedbed.compiler import compile_program
 from seedbed.errors import BadCode
 
-MOST = 1000000000
-END = ("complete", "end")
 PUSH = ("push", 1)
 DROP = ("store", 0)
-SETTLE = ("settle",)
-RESUME = ("resume",)
-LEAVE = ("leave",)
-YIELD = ("ask", "yield", 0, None)
-COUNTS = {
-    "yield": 0, "now": 0, "shield": 0, "unveil": 0, "sleep": 1, "emit": 1, "await": 1, "cancel": 1, "open": 1,
-    "receive": 1, "close": 1, "acquire": 1, "release": 1, "send": 2,
-}
-
-
-def function(instructions, guards=(), count=0, slots=5, name="f"):
-    return (name, count, slots, list(instructions), list(guards))
 
 
 def sample_code():

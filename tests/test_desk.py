@@ -2,6 +2,7 @@
 
 import copy
 import unittest
+from unittest import mock
 
 from helper import ODD_VALUES, main_with, nested_lists
 from seedbed.audit import audit
@@ -9,7 +10,7 @@ from seedbed.desk import Desk
 from seedbed.errors import BadCommand, BadProgram
 from seedbed.waits import first_circle
 from seedbed.world import World
-from worlds import MeetingMaker, program_of
+from worlds import KINDS, MeetingMaker, program_of
 
 PAIR = """
     func f int n int
@@ -178,6 +179,40 @@ class AfterRuns(unittest.TestCase):
         at.ask("run 1 0 2")
         first = self.answers(at)
         self.assertEqual([self.answers(at) for _ in range(3)], [first] * 3)
+
+
+class Comparing(unittest.TestCase):
+    def compared(self, kind_that_differs, last_run):
+        """The answer to same if the worlds of one kind had other traces, and what they were asked for."""
+        asked = []
+
+        class Other(World):
+            def __init__(self, program, *, kind="direct"):
+                super().__init__(program, kind=kind)
+                self.kind = kind
+
+            def run(self, schedule, *, most=1000):
+                asked.append((self.kind, list(schedule), most))
+                return super().run(schedule, most=most)
+
+            def trace(self):
+                return super().trace()[:-1] if self.kind == kind_that_differs else super().trace()
+
+        at = desk(PAIR, end="yield")
+        at.ask("run 5 5 5")
+        at.ask(last_run)
+        with mock.patch("seedbed.desk.World", Other):
+            return at.ask("same"), sorted(asked)
+
+    def test_different_traces(self):
+        for kind in KINDS:
+            self.assertEqual(self.compared(kind, "run")[0], "different")
+        self.assertEqual(self.compared("none", "run")[0], "same")
+
+    def test_the_last_schedule_in_worlds_of_the_three_kinds(self):
+        for command, schedule in (("run", []), ("run 3 0 1", [3, 0, 1])):
+            _, asked = self.compared("none", command)
+            self.assertEqual(asked, [(kind, schedule, 500) for kind in sorted(KINDS)])
 
 
 class WrongCommands(unittest.TestCase):

@@ -80,6 +80,9 @@ class Shorter(Tidied):
         self.shorter([("jump", 2), ("jump", 3), ("jump", 1)], [], 0)
         self.shorter([("load", 0), ("branch", 2)], [], 0)
         self.shorter([YIELD, END, END], [], 1)
+        self.shorter([("load", 0), ("branch", 5), ("load", 0), ("branch", 6), YIELD, END, END], [], 5)
+        self.shorter([YIELD, END, RESUME], [(0, 2, 2, "clean", 0)], 3, 1)
+        self.shorter([YIELD, SETTLE, END], [(0, 1, 2, "clean", 0)], 3, 1)
 
     def test_circles_that_are_never_entered(self):
         for circle, size in (
@@ -154,15 +157,43 @@ class Shorter(Tidied):
         self.shorter([YIELD, END, ("catch", 1), YIELD], [(0, 4, 2, "catch", 0)], 4, 1)
         self.shorter([YIELD, SETTLE, ("ask", "unveil", 0, None), RESUME], [(0, 3, 2, "clean", 0)], 4, 1)
 
+    LAYERS = [
+        SETTLE, YIELD, RESUME, ("load", 0), ("store", 1), SETTLE, YIELD, RESUME, END, RESUME, RESUME, END,
+        ("catch", 2), ("load", 2), EMIT, ("load", 1), EMIT, RESUME, END, ("catch", 2), ("load", 2), EMIT, END,
+    ]
+
     def test_a_clean_guard_before_ones_that_do_not_fit(self):
-        # The first guard takes nothing at the push, but the second one, which is deeper, must not cover it.
-        code = [SETTLE, YIELD, RESUME, ("push", 1), ("store", 0), SETTLE, YIELD, RESUME, END, RESUME, RESUME]
-        guards = [(2, 6, 10, "clean", 0), (1, 7, 9, "clean", 1)]
-        check_code([function(code, guards)])
-        self.tidied([function(code, guards)])
-        for size in range(1, 5):
-            replies = REPLIES[:size]
-            self.same_turns([function(code, guards)], tidy_code([function(code, guards)]), "f", [], replies)
+        # The second guard takes nothing at the load, but the third one, which is deeper, must not cover it.
+        guards = [(6, 7, 12, "catch", 1), (2, 6, 10, "clean", 0), (1, 7, 9, "clean", 1)]
+        after = self.shorter(self.LAYERS, guards, 18, 3, count=1)
+        self.assertEqual(after[4], guards)
+        guards.insert(1, (3, 6, 19, "catch", 0))
+        after = self.shorter(self.LAYERS, guards, 18, 3, count=1)
+        self.assertEqual(after[4], [guards[0], *guards[2:]])
+        guards[1] = (2, 6, 19, "catch", 0)
+        after = self.shorter(self.LAYERS, guards, 22, 4, count=1)
+        self.assertEqual(after[4], [guards[0], (2, 3, 19, "catch", 0), *guards[2:]])
+
+    def test_guards_of_all_ranges_that_cover_each_other(self):
+        targets = [(12, "catch", 1), (10, "clean", 0), (9, "clean", 1), (19, "catch", 0)]
+        valid = 0
+        chance = random.Random(7)
+        for _ in range(6000):
+            guards = []
+            for _ in range(chance.randrange(2, 6)):
+                first = chance.randrange(8)
+                guards.append((first, chance.randrange(first + 1, 9), *chance.choice(targets)))
+            code = [function(self.LAYERS, guards, count=1)]
+            try:
+                check_code(code)
+            except BadCode:
+                continue
+            valid += 1
+            tidy = self.tidied(code)
+            for replies in ([NONE, REPLIES[2], NONE, NONE], [REPLIES[2], NONE, NONE], [NONE, REPLIES[3], NONE],
+                            [REPLIES[3], NONE], [NONE] * 4):
+                self.same_turns(code, tidy, "f", [5], replies)
+        self.assertGreater(valid, 600)
 
     def test_many_functions(self):
         code = [function([YIELD, END, YIELD], name=f"f{k}", count=k % 5, slots=5) for k in range(8)]
