@@ -1,5 +1,6 @@
 """Leaving out guards, or what they cover, where they take nothing (point 23)."""
 
+from seedbed.covering import Covering
 from seedbed.errors import BadCode
 from seedbed.reach import UNFAILING, reached_in
 
@@ -37,16 +38,25 @@ def is_executable(instructions, guards):
 
 def places_of(instructions, guards):
     """Return a list for each guard, of the indexes of the instructions at which it can take a completion."""
+    covering = Covering(guards, len(instructions))
+    takers = [takers_of(looked_at, guards) for looked_at in covering.looked_at]
     taking = [[] for _ in guards]
     for at, instruction in enumerate(instructions):
         throws, others = completions_at(instruction)
-        for guard, places in zip(guards, taking):
-            first, last, _, word, _ = guard
-            if first <= at < last and (throws or others and word == "clean"):
-                places.append(at)
-                throws = False
-                others = others and word != "clean"
+        thrown_to, others_to = takers[covering.stretches[at]]
+        if throws and thrown_to is not None:
+            taking[thrown_to].append(at)
+        if others and others_to is not None and not (throws and thrown_to == others_to):
+            taking[others_to].append(at)
     return taking
+
+
+def takers_of(looked_at, guards):
+    """Return which of the guards that are looked at takes a throw, and which one other completions; None if none."""
+    if not looked_at:
+        return None, None
+    last = looked_at[-1]
+    return looked_at[0], last if guards[last][3] == "clean" else None
 
 
 def completions_at(instruction):

@@ -3,6 +3,7 @@
 A state is a pair: the height of the stack and the number of pending completions.
 """
 
+from seedbed.covering import Covering
 from seedbed.errors import BadCode
 
 HIGHEST = 40
@@ -66,6 +67,8 @@ class Walk:
     def __init__(self, instructions, guards):
         self._instructions = instructions
         self._guards = guards
+        self._covering = Covering(guards, len(instructions))
+        self._entered = {}
         self.states = {}
         self._open_ends = []
 
@@ -105,10 +108,15 @@ class Walk:
             self._reach_by_step(target, (height, pending))
 
     def _reach_by_guards(self, at, pending):
-        """Reach what the guards reach that can take a completion that occurs at an instruction."""
-        for first, last, target, word, depth in self._guards:
-            if first <= at < last:
-                need(depth <= pending, "a guard keeps no more completions than there are")
-                self._reach(target, (0, depth + 1))
-                if word == "clean":
-                    return
+        """Reach what the guards reach that can take a completion that occurs at an instruction.
+
+        Its stretch is gone through again only if there are fewer pending completions than before.
+        """
+        stretch = self._covering.stretches[at]
+        if stretch in self._entered and self._entered[stretch] <= pending:
+            return
+        self._entered[stretch] = pending
+        for index in self._covering.looked_at[stretch]:
+            _, _, target, _, depth = self._guards[index]
+            need(depth <= pending, "a guard keeps no more completions than there are")
+            self._reach(target, (0, depth + 1))
