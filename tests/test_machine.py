@@ -13,6 +13,7 @@ from seedbed.compiler import compile_program
 from seedbed.direct import Direct, turns_of
 from seedbed.errors import IsDone, OutOfRange
 from seedbed.machine import Machine
+from seedbed.tidy import tidy_code
 
 NONE = ("value", None)
 THROW = ("throw", 77)
@@ -471,7 +472,8 @@ class ManyCodes(unittest.TestCase):
             for name, params, _, _ in program:
                 args = maker.args_for(params)
                 replies = maker.replies_for(Direct(program, name, args), 80, seed % 2 == 0)
-                for coroutine in (Direct(program, name, args), Machine(code, name, args)):
+                kinds = [Machine(code, name, args), Machine(tidy_code(code), name, args)]
+                for coroutine in (Direct(program, name, args), *kinds):
                     turns = turns_of(coroutine, replies)
                     self.assertTrue(is_nested(turns, replies, seen))
         self.assertEqual(seen, {"enter", "shield", "acquire"})

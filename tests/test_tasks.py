@@ -3,12 +3,34 @@
 import unittest
 
 from helper import main_with
+from seedbed.audit import audit
+from seedbed.state import State
+from seedbed.tasks import take_turn
+from seedbed.waits import first_circle, waits_of
 from worlds import WorldCase, program_of, replies_to
 
 NONE = ("value", None)
 CANCELLED = ("cancelled",)
 DONE = ("done", ("return", None))
 
+
+
+class Script:
+    """A coroutine that makes these asks, whatever the replies."""
+
+    def __init__(self, asks):
+        self.asks = list(asks)
+
+    def resume(self, reply=None):
+        return ("ask", self.asks.pop(0)) if self.asks else ("done", ("return", None))
+
+
+def scripted(asks):
+    """Return the state of a world whose task 0 makes these asks."""
+    state = State(main_with([]), True)
+    state.start("main", [], None)
+    state.tasks[0].coroutine = Script(asks)
+    return state
 
 
 class Plain(WorldCase):
@@ -169,7 +191,7 @@ class Awaits(WorldCase):
         at = events.index(("done", 1, ("return", 9)))
         self.assertEqual(events[at + 1:at + 4], [("reply", task, ("value", 9)) for task in (0, 2, 3)])
 
-    def test_a_task_that_waits_for_itself(self):
+    def test_one_that_waits_for_another_that_waits(self):
         text = """
             func f none c channel
               receive n c
@@ -190,6 +212,13 @@ class Awaits(WorldCase):
         world, end = self.played(text)
         self.assertEqual(end, ("still",))
         self.assertEqual(world.waits(), [(0, ("task", 2)), (1, ("receive", 0)), (2, ("task", 1))])
+
+    def test_a_task_that_waits_for_itself(self):
+        state = scripted([("await", 0)])
+        take_turn(state, state.tasks[0])
+        waits = waits_of(state.tasks, state.holders)
+        self.assertEqual((waits, first_circle(waits)), ([(0, ("task", 0))], [0]))
+        self.assertIsNone(audit(state.events))
 
 
 class Spawns(WorldCase):
@@ -316,11 +345,13 @@ class Cancels(WorldCase):
         world = self.ended("sleep 5", "sleep 1\n            cancel t")
         self.assertEqual(world.output(), [5, 9])
 
-    def test_the_task_itself(self):
+    def test_tasks_that_one_was_told_of(self):
         text = """
             func f none c channel
-              receive n c
-              emit n
+              scope none
+                spawn t h c
+              end
+              emit 8
             end
             func g none u task
               emit 1
@@ -330,44 +361,29 @@ class Cancels(WorldCase):
               emit 3
             end
             func h none c channel
-              scope none
-                spawn t f c
-              end
+              receive n c
+              emit n
             end
             func main none
               open c 0
               watch none
-                spawn t h c
-                spawn u g t
+                spawn t f c
                 sleep 1
-                cancel t
+                spawn u g t
               end
               emit 9
             end
         """
         self.assertEqual(self.outputs(text), [1, 2, 3, 9])
 
-    def test_a_task_cancels_itself_by_its_own_number(self):
-        text = """
-            func f none c channel t task
-              cancel t
-              emit 4
-              sleep 0
-              emit 5
-            end
-            func g none
-              yield
-            end
-            func main none
-              open c 1
-              scope none
-                spawn t g
-                spawn u f c t
-                await none u
-              end
-            end
-        """
-        self.assertEqual(self.outputs(text), [4, 5])
+    def test_the_task_itself(self):
+        # No program knows the number of the task that executes it, so the asks are made by a list of them.
+        state = scripted([("cancel", 0), ("emit", 1), ("shield",), ("yield",), ("unveil",), ("yield",)])
+        for _ in range(6):
+            take_turn(state, state.tasks[0])
+        replies = [event[2] for event in state.events if event[0] == "reply"]
+        self.assertEqual(replies, [NONE] * 5 + [CANCELLED])
+        self.assertIsNone(audit(state.events))
 
     def test_cleanups_of_a_cancelled_task(self):
         world = self.ended("try\n            sleep 50\n          finally\n            emit 2\n            sleep 3\n"
