@@ -623,7 +623,7 @@ class Runs(Audits):
             for _ in range(12):
                 changed = list(events)
                 for _ in range(chance.choice([1, 1, 1, 2])):
-                    changed = change(changed, chance)
+                    changed = change(changed, chance) if changed else changed
                 if not has_form(changed):
                     continue
                 expected = told_audit(changed)
