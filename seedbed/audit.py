@@ -22,8 +22,8 @@ def rule_broken_by(book, event):
     if not book.tasks:
         return None if event == ("start", 0, "main", [], None) else 1
     match event:
-        case ("start", number, name, args, scope):
-            return rule_broken_by_start(book, number, ("spawn", name, args), scope)
+        case ("start", started, name, args, scope):
+            return rule_broken_by_start(book, started, ("spawn", name, args), scope)
         case ("time", time):
             return 5 if time <= book.now else rule_of_channels(book)
     word, number, told = event
