@@ -119,9 +119,9 @@ class Book:
             case ("receive", channel):
                 self.flows[channel].receive()
             case ("select", arms, _):
-                index, number = value
+                index, told = value
                 if 0 <= index < len(arms):
-                    self._enter_value(task, arms[index], number)
+                    self._enter_value(task, arms[index], told)
 
     def _enter_scope(self, task, span, watched):
         deadline = None if span is None else task.asked_at + span
