@@ -48,8 +48,8 @@ def answer(state, task, ask):
             if len(state.tasks) >= MOST_TASKS:
                 state.reply_to(task, TOO_MANY_TASKS)
             else:
-                number = state.start(name, args, task.last_scope())
-                state.reply_to(task, ("value", number))
+                started = state.start(name, args, task.last_scope())
+                state.reply_to(task, ("value", started))
         case ("await", number):
             other = state.tasks[number]
             if other.outcome is None:
